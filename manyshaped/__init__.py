@@ -1,0 +1,1 @@
+"""Manyshaped: systems of any shape, and when they behave alike."""

@@ -10,6 +10,10 @@ INTERFACE = {
     "shape.py": ["check_shape", "size"],
     "value.py": ["is_value", "image", "states_in", "count_values"],
     "system.py": ["check_system", "summed", "reached", "part", "is_map"],
+    "alike.py": ["coarsest", "are_classes", "ranks", "alike", "takes"],
+    "formula.py": ["check_formula", "true_of", "depth", "characteristic"],
+    "least.py": ["form", "quotient", "same"],
+    "unfold.py": ["unfolding"],
 }
 OUTSIDE = {"math": {"comb", "gcd", "lcm"}}
 

@@ -7,41 +7,9 @@ from manyshaped.errors import BadMap, BadShape, BadState, BadSystem, TooMuch
 from manyshaped.system import check_system, is_map, part, reached, summed
 from manyshaped.value import states_in
 from things import (
-    SELF, WRONG, after, both, chance, doubled, either, error_of, letters, many, nested, plain_image, some, wrapped,
+    BAD_SHAPES, NO_SYSTEMS, SELF, SYSTEMS, WRONG, after, both, chance, either, error_of, letters, many, plain_image,
+    ring, some,
 )
-
-# In each of these systems state 3 leads to no state but itself.
-SYSTEMS = [
-    (SELF, (1, 2, 1, 3)),
-    (both(letters(2), SELF), ((0, 1), (1, 2), (0, 1), (1, 3))),
-    (either(letters(3), both(SELF, SELF)), ((1, (1, 2)), (0, 2), (1, (2, 2)), (1, (3, 3)))),
-    (after(2, SELF), ((2, 1), (1, 1), (2, 2), (3, 3))),
-    (some(SELF), ((1, 2, 3), (), (1,), (3,))),
-    (many(SELF), (((1, 2), (2, 1)), ((1, 1),), ((1, 1), (3, 2)), ())),
-    (chance(SELF), (((0, 1, 2), (2, 1, 2)), ((3, 1, 1),), ((2, 1, 3), (3, 2, 3)), ((3, 1, 1),))),
-    (some(chance(both(letters(2), SELF))), (
-        ((((0, 1), 1, 2), ((1, 2), 1, 2)), (((1, 3), 1, 1),)), (), ((((0, 3), 1, 1),),), ((((0, 3), 1, 1),),),
-    )),
-    (letters(2), (0, 1, 1, 0)),
-]
-# No systems, though they hold no wrong shape.
-NO_SYSTEMS = [
-    "", "ab", 0, -1, 2, True, None, (), (SELF,), (SELF, (), ()), (SELF, 0), (SELF, None), (SELF, "a"), (SELF, True),
-    (SELF, (1,)), (SELF, (-1,)), (SELF, (True,)), (SELF, (False,)), (SELF, (None,)), (SELF, ("0",)), (SELF, ((),)),
-    (SELF, (0, 2)), (letters(2), (0, 2)), (letters(2), (True,)), (some(SELF), ((1, 0), ())), (some(SELF), ((0, 0),)),
-    (some(SELF), (0,)), (many(SELF), (((0, 0),),)), (many(SELF), (((0, 1001),),)), (chance(SELF), ((),)),
-    (chance(SELF), (((0, 2, 2),),)), (chance(SELF), (((0, 1, 2),),)), (both(SELF, SELF), ((0,),)),
-    (SELF, nested(98)), (SELF, doubled(98, ())), (SELF, doubled(98, 0)), (some(SELF), doubled(98, ())),
-    (wrapped(5, SELF), doubled(98, 0)), nested(100), nested(100, 0), (SELF, [0]), [SELF, (0,)],
-]
-BAD_SHAPES = [(x, (0,)) for x in WRONG] + [
-    (wrapped(6, SELF), ()), ("self", ()), (0, 0), ((), ()), (None, None), letters(2), some(SELF),
-]
-
-
-def ring(length):
-    return (SELF, tuple((x + 1) % length for x in range(length)))
-
 
 def pairs(number):
     """A set with so many pairs of states, that is with twice as many numbers."""

@@ -3,6 +3,8 @@
 from fractions import Fraction
 from itertools import combinations, product
 
+from manyshaped.errors import BadShape, BadState, BadSystem
+
 SELF = ("self",)
 
 
@@ -62,6 +64,46 @@ WRONG = [
     doubled(99, "self"),
 ]
 
+# In each of these systems state 3 leads to no state but itself.
+SYSTEMS = [
+    (SELF, (1, 2, 1, 3)),
+    (both(letters(2), SELF), ((0, 1), (1, 2), (0, 1), (1, 3))),
+    (either(letters(3), both(SELF, SELF)), ((1, (1, 2)), (0, 2), (1, (2, 2)), (1, (3, 3)))),
+    (after(2, SELF), ((2, 1), (1, 1), (2, 2), (3, 3))),
+    (some(SELF), ((1, 2, 3), (), (1,), (3,))),
+    (many(SELF), (((1, 2), (2, 1)), ((1, 1),), ((1, 1), (3, 2)), ())),
+    (chance(SELF), (((0, 1, 2), (2, 1, 2)), ((3, 1, 1),), ((2, 1, 3), (3, 2, 3)), ((3, 1, 1),))),
+    (some(chance(both(letters(2), SELF))), (
+        ((((0, 1), 1, 2), ((1, 2), 1, 2)), (((1, 3), 1, 1),)), (), ((((0, 3), 1, 1),),), ((((0, 3), 1, 1),),),
+    )),
+    (letters(2), (0, 1, 1, 0)),
+]
+# No systems, though they hold no wrong shape.
+NO_SYSTEMS = [
+    "", "ab", 0, -1, 2, True, None, (), (SELF,), (SELF, (), ()), (SELF, 0), (SELF, None), (SELF, "a"), (SELF, True),
+    (SELF, (1,)), (SELF, (-1,)), (SELF, (True,)), (SELF, (False,)), (SELF, (None,)), (SELF, ("0",)), (SELF, ((),)),
+    (SELF, (0, 2)), (letters(2), (0, 2)), (letters(2), (True,)), (some(SELF), ((1, 0), ())), (some(SELF), ((0, 0),)),
+    (some(SELF), (0,)), (many(SELF), (((0, 0),),)), (many(SELF), (((0, 1001),),)), (chance(SELF), ((),)),
+    (chance(SELF), (((0, 2, 2),),)), (chance(SELF), (((0, 1, 2),),)), (both(SELF, SELF), ((0,),)),
+    (SELF, nested(98)), (SELF, doubled(98, ())), (SELF, doubled(98, 0)), (some(SELF), doubled(98, ())),
+    (wrapped(5, SELF), doubled(98, 0)), nested(100), nested(100, 0), (SELF, [0]), [SELF, (0,)],
+]
+BAD_SHAPES = [(x, (0,)) for x in WRONG] + [
+    (wrapped(6, SELF), ()), ("self", ()), (0, 0), ((), ()), (None, None), letters(2), some(SELF),
+]
+
+
+WRONG_SYSTEMS = [(s, BadSystem) for s in NO_SYSTEMS] + [(s, BadShape) for s in BAD_SHAPES]
+
+
+def ring(length):
+    return (SELF, tuple((x + 1) % length for x in range(length)))
+
+
+def line(length):
+    """A row of states: each leads to the one before it, the first one to none."""
+    return (some(SELF), tuple((x - 1,) if x > 0 else () for x in range(length)))
+
 
 def error_of(call, *arguments):
     """The class of the error with which the call ends, or None."""
@@ -71,6 +113,31 @@ def error_of(call, *arguments):
         assert e.args == ()
         return e.__class__
     return None
+
+
+def check_refusals_for_two(test, call):
+    """Check what a call for a state x of s and a state y of t refuses, in the order of the arguments."""
+    empty, other = (SELF, ()), (some(SELF), ((),))
+    for s, error in WRONG_SYSTEMS:
+        for rest in ((None, None, None), (0, (None, ()), None), (0, ring(1), 0)):
+            test.assertIs(error_of(call, s, *rest), error)
+        test.assertIs(error_of(call, ring(60), 0, s, None), error)
+        test.assertIs(error_of(call, other, 0, s, 0), error)
+        test.assertIs(error_of(call, ring(1), 1, s, 0), BadState)
+    for x in WRONG + [2, 3, (0,), "0"]:
+        test.assertIs(error_of(call, ring(2), x, None, None), BadState)
+        test.assertIs(error_of(call, ring(2), x, other, 0), BadState)
+        test.assertIs(error_of(call, ring(2), 0, other, x), BadState)
+        test.assertIs(error_of(call, ring(60), 0, ring(2), x), BadState)
+    test.assertIs(error_of(call, empty, 0, ring(2), 0), BadState)
+    test.assertIs(error_of(call, ring(2), 0, empty, 0), BadState)
+    test.assertIs(error_of(call, ring(3), 2, ring(2), 2), BadState)
+    test.assertIs(error_of(call, ring(61), 0, ring(2), 0), BadSystem)
+    test.assertIs(error_of(call, ring(2), 0, other, 0), BadShape)
+    test.assertIs(error_of(call, ring(60), 0, (some(SELF), ((),) * 60), 0), BadShape)
+    # Values that are the same numbers do not make unlike shapes the same.
+    test.assertIs(error_of(call, (letters(1), (0,)), 0, (letters(2), (0,)), 0), BadShape)
+    test.assertIs(error_of(call, (letters(1), (0,)), 0, ring(1), 0), BadShape)
 
 
 def all_values(shape, states):
